@@ -1,0 +1,1 @@
+"""What one would rather have: wishes told one by one, all else alike."""
