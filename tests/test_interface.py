@@ -34,7 +34,7 @@ class Lists(unittest.TestCase):
         self.assertEqual(answers(calls), [1, 0, 1, 0, 1, 1, 1, 3, 1, 2, 1, 1, 1, -22])
 
     def test_on_stands_behind_its_count(self):
-        # on is 1 and 0, wish 2: white only if the first told, feature 1, is had and feature 0 is not.
+        # on is 1 and 0, wish 2: feature 2 is rather 1 only where feature 1, named first, is 1 and feature 0 is 0.
         calls = [0, 1, 0, 0, 1, 0, 0, 1, 2, 2, 1, 0, 2, 3, 2, 2, 3, 1]
         self.assertEqual(answers(calls), [1, 0, 1, 0, 1, 1, 1, 2, 1, 6, 1, 1])
 
