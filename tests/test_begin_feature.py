@@ -3,7 +3,8 @@
 import unittest
 
 from tests.helper import (
-    FEATURE_SETS, MOST, ask, ask_of, begin, best, compare, feature, telling, things, worst,
+    FEATURE_SETS, MOST, above, ask, ask_of, ask_rows, ask_rows_of, begin, below, best, compare, feature, order, path,
+    telling, things, worst,
 )
 
 SIX = [([], 1), ([0], 2), ([1, 0], 9), ([2, 0, 1], 150), ([3], 1), ([], 0)]
@@ -80,9 +81,9 @@ class FeatureRefused(unittest.TestCase):
         for features in FEATURE_SETS:
             refused = list(wrong) + ([feature([], 1), feature([0], 2)] if len(features) == 6 else [])
             probes = probes_of(features)
-            plain = ask_of(features, probes)
-            told = ask(telling(features) + refused + probes)[len(features) + 1:]
-            self.assertTrue(all(number < 0 for number in told[:len(refused)]))
+            plain = ask_rows_of(features, probes)
+            told = ask_rows(telling(features) + refused + probes)[len(features) + 1:]
+            self.assertTrue(all(len(row) == 1 and row[0] < 0 for row in told[:len(refused)]))
             self.assertEqual(told[len(refused):], plain)
 
     def test_a_refused_one_takes_no_number(self):
@@ -96,6 +97,7 @@ def probes_of(features):
     probes = [best(0, 0), worst(0, 0), best(2 ** len(features), 0), compare(0, 2 ** len(features))]
     probes += [best(a, b) for a in some for b in some[:4]]
     probes += [compare(a, b) for a in some for b in some]
+    probes += [path(some[0], some[-1]), path(some[-1], some[0]), above(some[-1]), below(some[-1]), order()]
     return probes + [feature([], 0)]
 
 
